@@ -1,4 +1,4 @@
-// Package heaps copies heaps, as functions that are given one return another one in new memory.
+// Package heaps copies heaps and graphs, as functions that are given one return another one in new memory.
 package heaps
 
 import (
@@ -24,4 +24,13 @@ func CloneSets(s api.RmSets) api.RmSets {
 		t.Cars = append(t.Cars, api.SlSet{Cells: slices.Clone(set.Cells)})
 	}
 	return t
+}
+
+// CloneGraph returns a graph that shares no memory with g.
+func CloneGraph(g api.GrGraph) api.GrGraph {
+	h := api.GrGraph{Regs: slices.Clone(g.Regs)}
+	for _, o := range g.Objects {
+		h.Objects = append(h.Objects, api.GrObject{Ptrs: slices.Clone(o.Ptrs), Raws: slices.Clone(o.Raws)})
+	}
+	return h
 }

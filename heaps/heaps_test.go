@@ -21,3 +21,18 @@ func TestClone(t *testing.T) {
 		t.Error("memory is shared", h)
 	}
 }
+
+func TestCloneGraph(t *testing.T) {
+	example := func() api.GrGraph {
+		return api.GrGraph{Objects: []api.GrObject{{Ptrs: []int{1}, Raws: []uint64{2}}}, Regs: []int{1}}
+	}
+	g := example()
+	h := CloneGraph(g)
+	if !reflect.DeepEqual(g, h) {
+		t.Error(h)
+	}
+	h.Objects[0].Ptrs[0], h.Objects[0].Raws[0], h.Regs[0] = 9, 9, 9
+	if !reflect.DeepEqual(g, example()) {
+		t.Error("memory is shared", g)
+	}
+}
