@@ -82,6 +82,12 @@ func TestFields(t *testing.T) {
 	if v, _ := Read(g, 4, 0); v != 0 {
 		t.Error("the argument was changed")
 	}
+	two, _ := nursery.New(sizes)
+	two, _, _ = nursery.Bump(two, api.Shape{P: 1, R: 2})
+	f, e = Write(two, 1, 1, 8)
+	if v, _ := Read(f, 1, 1); v != 8 || f.Words[4] != 8 || f.Words[3] != 0 || e != api.OK {
+		t.Error(f.Words[:5], e)
+	}
 	for _, field := range []int{1, -1, math.MaxInt} {
 		_, e1 := Load(h, 1, field)
 		_, e2 := Store(h, 1, field, 2)
@@ -154,6 +160,17 @@ func TestStores(t *testing.T) {
 		again := store(t, g, a, field, v)
 		if !slices.Equal(again.Words, g.Words) || !remset.Same(again.Sets, g.Sets) {
 			t.Fatal("storing again")
+		}
+		copied := heaps.Clone(g)
+		same, _ := Store(g, a, field, v)
+		clear(same.Words)
+		clear(same.Frames)
+		clear(same.Sets.Cars)
+		clear(same.Sets.Nursery.Cells)
+		clear(same.Regs)
+		clear(same.Trains.Lowest)
+		if !reflect.DeepEqual(g, copied) {
+			t.Fatal("memory is shared")
 		}
 		h = g
 	}

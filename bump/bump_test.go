@@ -156,6 +156,20 @@ func TestAllNeeds(t *testing.T) {
 	}
 }
 
+// P13.8
+func TestNewMemory(t *testing.T) {
+	l := example()
+	train := make([]int, 2, 9)
+	train[0], train[1] = 2, 0
+	_, m, u, _ := All(sizes, l, train, -1, nil)
+	m[0].Top, u[0] = 99, 99
+	_, _, u, _ = Place(sizes, l, train, -1, 8)
+	u[0] = 99
+	if !slices.Equal(l, example()) || !slices.Equal(train[:9], []int{2, 0, 0, 0, 0, 0, 0, 0, 0}) {
+		t.Error("memory is shared", l, train[:9])
+	}
+}
+
 // P13.5, P13.6, P13.7
 func TestSoundStays(t *testing.T) {
 	seed := 9

@@ -120,6 +120,13 @@ func TestRun(t *testing.T) {
 	d := New()
 	check(t, d, [2]string{`play "` + strings.Repeat(`collect\n`, 180) + `"`, strings.TrimSuffix(strings.Repeat("ok\n", 180), "\n")})
 	// The script is answered with 180 lines of 8 bytes each time.
+	full := strings.Repeat("script\n", 728) + strings.Repeat("pin\n", 128)
+	if s, e := d.Run(full); len(s) != api.MaxDeskAnswer || e != api.OK {
+		t.Error(len(s), e)
+	}
+	if s, e := d.Run(full + "pin\n"); s != "" || e != api.ErrLong {
+		t.Error(len(s), e)
+	}
 	if s, e := d.Run(strings.Repeat("script\n", 728) + "pause\n"); len(s) != 728*1440+18 || e != api.OK {
 		t.Error(len(s), e)
 	}

@@ -205,3 +205,21 @@ func parts(t *testing.T, h, g api.Heap, r api.EvReport) {
 		}
 	}
 }
+
+// Results share no memory with arguments (R3)
+func TestNewMemory(t *testing.T) {
+	r := heaptest.NewRandom(3)
+	for range 40 {
+		h := r.Heap(false)
+		before := heaps.Clone(h)
+		var results []api.Heap
+		g, _, _ := Do(h)
+		results = append(results, g)
+		for _, g := range results {
+			heaptest.Scribble(g)
+		}
+		if !reflect.DeepEqual(h, before) {
+			t.Fatal("memory is shared")
+		}
+	}
+}

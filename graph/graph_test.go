@@ -45,7 +45,7 @@ func TestNewCheck(t *testing.T) {
 		g      api.GrGraph
 		object int
 		e      api.Errno
-	}{{example(), 0, api.OK}, {api.GrGraph{Objects: make([]api.GrObject, 401)}, 0, api.ErrRange}, {api.GrGraph{Regs: make([]int, 9)}, 0, api.ErrRange}, {api.GrGraph{Objects: make([]api.GrObject, 401), Regs: regs}, 0, api.ErrLong}, {api.GrGraph{Objects: make([]api.GrObject, 400), Regs: regs}, 0, api.OK}, {api.GrGraph{Objects: []api.GrObject{{}, {Ptrs: make([]int, 16), Raws: make([]uint64, 16)}}, Regs: regs}, 2, api.ErrLong}, {api.GrGraph{Objects: []api.GrObject{{Ptrs: make([]int, 16), Raws: make([]uint64, 15)}}, Regs: regs}, 0, api.OK}, {api.GrGraph{Objects: []api.GrObject{{Ptrs: []int{2}}}, Regs: []int{5}}, 1, api.ErrForm}, {api.GrGraph{Objects: []api.GrObject{{Ptrs: []int{-1}}}, Regs: regs}, 1, api.ErrForm}, {api.GrGraph{Objects: []api.GrObject{{Ptrs: []int{1}}}, Regs: []int{2}}, 0, api.ErrForm}, {api.GrGraph{Regs: []int{-1}}, 0, api.ErrForm}} {
+	}{{example(), 0, api.OK}, {api.GrGraph{Regs: make([]int, 8)}, 0, api.OK}, {api.GrGraph{Objects: []api.GrObject{{Ptrs: make([]int, 31)}}, Regs: regs}, 0, api.OK}, {api.GrGraph{Objects: make([]api.GrObject, 401)}, 0, api.ErrRange}, {api.GrGraph{Regs: make([]int, 9)}, 0, api.ErrRange}, {api.GrGraph{Objects: make([]api.GrObject, 401), Regs: regs}, 0, api.ErrLong}, {api.GrGraph{Objects: make([]api.GrObject, 400), Regs: regs}, 0, api.OK}, {api.GrGraph{Objects: []api.GrObject{{}, {Ptrs: make([]int, 16), Raws: make([]uint64, 16)}}, Regs: regs}, 2, api.ErrLong}, {api.GrGraph{Objects: []api.GrObject{{Ptrs: make([]int, 16), Raws: make([]uint64, 15)}}, Regs: regs}, 0, api.OK}, {api.GrGraph{Objects: []api.GrObject{{Ptrs: []int{2}}}, Regs: []int{5}}, 1, api.ErrForm}, {api.GrGraph{Objects: []api.GrObject{{Ptrs: []int{-1}}}, Regs: regs}, 1, api.ErrForm}, {api.GrGraph{Objects: []api.GrObject{{Ptrs: []int{1}}}, Regs: []int{2}}, 0, api.ErrForm}, {api.GrGraph{Regs: []int{-1}}, 0, api.ErrForm}} {
 		object, e := Check(x.g)
 		if object != x.object || e != x.e {
 			t.Error(i, object, e)
@@ -183,6 +183,11 @@ func TestLiveWords(t *testing.T) {
 		if !slices.Equal(l, x.live) || n != x.words || e+e2 != api.OK {
 			t.Error(i, l, n, e, e2)
 		}
+	}
+	spare := make([]int, 1, 9)
+	spare[0] = 1
+	if l, _ := Live(api.GrGraph{Objects: g.Objects, Regs: spare}); !slices.Equal(l, []int{1, 2}) || !slices.Equal(spare[:9], []int{1, 0, 0, 0, 0, 0, 0, 0, 0}) {
+		t.Error("the argument was changed", spare[:9])
 	}
 	cycle := api.GrGraph{Objects: []api.GrObject{{Ptrs: []int{3}}, {Ptrs: []int{2}}, {Ptrs: []int{1, 3, 0}}}, Regs: []int{3}}
 	if l, e := Live(cycle); !slices.Equal(l, []int{1, 3}) || e != api.OK {

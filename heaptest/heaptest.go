@@ -208,3 +208,24 @@ func (r *Random) link(h api.Heap) api.Heap {
 	}
 	return h
 }
+
+// Scribble overwrites all that a heap has in slices, so that what shares memory with it is seen to be changed.
+func Scribble(h api.Heap) {
+	fill(h.Words, 77)
+	fill(h.Frames, api.Frame{State: 7, Top: 7})
+	fill(h.Trains.Lowest, 77)
+	fill(h.Trains.Youngest, 77)
+	fill(h.Regs, 77)
+	fill(h.Sets.Nursery.Cells, 77)
+	for _, set := range h.Sets.Cars {
+		fill(set.Cells, 77)
+	}
+	fill(h.Sets.Cars, api.SlSet{})
+}
+
+func fill[T any](l []T, x T) {
+	l = l[:cap(l)]
+	for i := range l {
+		l[i] = x
+	}
+}

@@ -22,7 +22,8 @@ const canonical = "[{[2] [7]} {[1 0] []}] [1 0 1]"
 
 // P16.1, P16.6
 func TestCanon(t *testing.T) {
-	h, ids, e := Canon(example())
+	whole := example()
+	h, ids, e := Canon(whole)
 	if text(h) != canonical || !slices.Equal(ids, []int{3, 1}) || e != api.OK {
 		t.Error(h, ids, e)
 	}
@@ -31,8 +32,8 @@ func TestCanon(t *testing.T) {
 		t.Error(again, ids, e)
 	}
 	h.Objects[0].Raws[0] = 8
-	if g := example(); text(g) != "[{[3 0] []} {[] []} {[1] [7]}] [3 0 3]" {
-		t.Error(g)
+	if text(whole) != text(example()) {
+		t.Error("memory is shared", whole)
 	}
 	wide := api.GrGraph{Objects: []api.GrObject{{}, {Ptrs: []int{4, 3}}, {Ptrs: []int{1}}, {Ptrs: []int{3, 5}}, {}}, Regs: []int{0, 2, 1}}
 	if h, ids, _ := Canon(wide); !slices.Equal(ids, []int{2, 1, 4, 3, 5}) || text(h) != "[{[3 4] []} {[] []} {[4 5] []} {[2] []} {[] []}] [0 1 2]" {
@@ -108,6 +109,10 @@ func TestRead(t *testing.T) {
 		if g, at, e := Read(x.w, x.regs); e != x.e || len(g.Objects)+len(g.Regs)+len(at) > 0 {
 			t.Error(i, g, at, e)
 		}
+	}
+	large[1] = 1 + 65536*31
+	if g, _, e := Read(large, []int{1}); len(g.Objects) != 1 || e != api.OK {
+		t.Error(g, e)
 	}
 	if g, at, e := Read(w, make([]int, 8)); len(g.Objects)+len(at) > 0 || len(g.Regs) != 8 || e != api.OK {
 		t.Error(g, at, e)

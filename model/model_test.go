@@ -91,6 +91,9 @@ func TestPlay(t *testing.T) {
 	if g, a, op, e := Play(sizes, nil, nil); !slices.Equal(g.Regs, []int{0, 0}) || len(a)+op > 0 || e != api.OK {
 		t.Error(g, a, op, e)
 	}
+	if _, a, op, e := Play(sizes, slices.Repeat([]api.OpCall{{Kind: api.OpCollect}}, 200), nil); len(a) != 200 || op != 0 || e != api.OK {
+		t.Error(len(a), op, e)
+	}
 	bad := append(script(), api.OpCall{Kind: 99})
 	for i, x := range []struct {
 		c    api.Config

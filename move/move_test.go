@@ -23,7 +23,7 @@ func TestCopyMoved(t *testing.T) {
 		w        []uint64
 		from, to int
 		e        api.Errno
-	}{{w, 1, 8, api.ErrRange}, {w, 1, 0, api.ErrRange}, {w, 1, -1, api.ErrRange}, {w, 1, math.MaxInt, api.ErrRange}, {w, 1, 3, api.ErrTwice}, {w, 1, 1, api.ErrTwice}, {w, 5, 4, api.ErrTwice}, {w, 2, 7, api.ErrForm}, {w, 0, 7, api.ErrRange}, {nil, 1, 1, api.ErrLong}, {v, 1, 4, api.ErrForm}} {
+	}{{w, 1, 8, api.ErrRange}, {w, 1, 0, api.ErrRange}, {w, 1, -1, api.ErrRange}, {w, 1, math.MaxInt, api.ErrRange}, {w, 1, 3, api.ErrTwice}, {w, 1, 1, api.ErrTwice}, {w, 5, 4, api.ErrTwice}, {w, 2, 7, api.ErrForm}, {w, 0, 7, api.ErrRange}, {nil, 1, 1, api.ErrLong}, {v, 1, 4, api.ErrForm}, {v, 7, 8, api.ErrRange}} {
 		if v, n, e := Copy(x.w, x.from, x.to); len(v)+n > 0 || e != x.e {
 			t.Error(x, v, n, e)
 		}
@@ -127,6 +127,19 @@ func TestAll(t *testing.T) {
 	}
 	if v, n, at, e := All(example(), nil); !slices.Equal(v, example()) || n+at != 0 || e != api.OK {
 		t.Error(v, n, at, e)
+	}
+	v[1] = 99
+	empty := []uint64{0, 1, 5}
+	v, _, e = Fields(empty, 1)
+	v[2] = 99
+	if empty[2] != 5 || e != api.OK {
+		t.Error("memory is shared", e)
+	}
+	whole := example()
+	v, _, _, _ = All(whole, nil)
+	v[2] = 99
+	if !slices.Equal(whole, example()) {
+		t.Error("memory is shared")
 	}
 	twice := append(example(), 0, 0, 0)
 	v, _, _, e = All(twice, []api.MvMove{one, {From: 7, To: 10, Words: 3}})

@@ -141,6 +141,21 @@ func TestNewCheck(t *testing.T) {
 	}
 }
 
+// P17.1: the largest arena with an object at its last address, and a popular car
+func TestGood(t *testing.T) {
+	h, _ := New(api.Config{C: 64, N: 24, S: 64, K: 1, Q: 2})
+	h.Words[1537], h.Words[1569], h.Words[1600] = 1+65536*31, 1+256*30, 1
+	h.Words[1570] = 1600
+	h.Frames[23] = api.Frame{State: api.FrUsed, Top: 64}
+	h.Words[65] = 1
+	h.Frames[0] = api.Frame{State: api.FrPopular, Top: 1}
+	h.Trains.Youngest = []int{0, 23}
+	h.Regs[0] = 1600
+	if rule, e := Check(h); rule != 0 || e != api.OK {
+		t.Error(rule, e)
+	}
+}
+
 // P17.2, P17.6
 func TestObjectsOccupiedLeft(t *testing.T) {
 	l, e := Objects(small())
@@ -220,8 +235,8 @@ func TestRoom(t *testing.T) {
 			h = g
 			words++
 		}
-		if words != min(c.S, c.C*(c.N-6)/2) {
-			t.Error(c, words)
+		if rule, e := Check(h); words != min(c.S, c.C*(c.N-6)/2) || rule != 0 || e != api.OK {
+			t.Error(c, words, rule, e)
 		}
 	}
 }

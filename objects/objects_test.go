@@ -17,11 +17,13 @@ func TestFirstErrors(t *testing.T) {
 	broken[0] = 1
 	beyond := example()
 	beyond[9] = 257
+	rawBeyond := example()
+	rawBeyond[9] = 65537
 	for _, x := range []struct {
 		w []uint64
 		a int
 		e api.Errno
-	}{{nil, 3, api.ErrLong}, {broken, 3, api.ErrForm}, {example(), 0, api.ErrRange}, {example(), 10, api.ErrRange}, {example(), -1, api.ErrRange}, {example(), math.MaxInt, api.ErrRange}, {example(), 4, api.ErrForm}, {beyond, 9, api.ErrForm}} {
+	}{{nil, 3, api.ErrLong}, {broken, 3, api.ErrForm}, {example(), 0, api.ErrRange}, {example(), 10, api.ErrRange}, {example(), -1, api.ErrRange}, {example(), math.MaxInt, api.ErrRange}, {example(), 4, api.ErrForm}, {beyond, 9, api.ErrForm}, {rawBeyond, 9, api.ErrForm}} {
 		s, e1 := Shape(x.w, x.a)
 		n, e2 := Size(x.w, x.a)
 		l, e3 := Slots(x.w, x.a)
@@ -65,6 +67,10 @@ func TestMake(t *testing.T) {
 	}
 	if _, e := Make([]uint64{1}, 1, api.Shape{P: 64}); e != api.ErrForm {
 		t.Error(e)
+	}
+	first, e := Make(w, 1, api.Shape{R: 1})
+	if s, e2 := Shape(first, 1); s != (api.Shape{R: 1}) || e+e2 != api.OK {
+		t.Error(s, e, e2)
 	}
 	if _, e := Make(w, 9, api.Shape{}); e != api.OK {
 		t.Error(e)

@@ -121,6 +121,9 @@ func TestListText(t *testing.T) {
 	if m, line, e := List(strings.Repeat("collect\n", 200) + "\n"); len(m) != 200 || line != 0 || e != api.OK {
 		t.Error(len(m), line, e)
 	}
+	if s, op, e := Text(slices.Repeat([]api.OpCall{{Kind: api.OpCollect}}, 200)); len(s) != 1600 || op != 0 || e != api.OK {
+		t.Error(len(s), op, e)
+	}
 	if s, op, e := Text(make([]api.OpCall, 201)); s != "" || op != -1 || e != api.ErrLong {
 		t.Error(s, op, e)
 	}

@@ -213,3 +213,23 @@ func TestSettles(t *testing.T) {
 		}
 	}
 }
+
+// Results share no memory with arguments (R3)
+func TestNewMemory(t *testing.T) {
+	r := heaptest.NewRandom(6)
+	for range 40 {
+		h := r.Heap(true)
+		before := heaps.Clone(h)
+		var results []api.Heap
+		g, _, _ := Do(h)
+		f, _, _ := Many(h, 0)
+		k, _, _ := Round(h, 0)
+		results = append(results, g, f, k)
+		for _, g := range results {
+			heaptest.Scribble(g)
+		}
+		if !reflect.DeepEqual(h, before) {
+			t.Fatal("memory is shared")
+		}
+	}
+}

@@ -184,3 +184,23 @@ func TestTheorem(t *testing.T) {
 		t.Error(pinned)
 	}
 }
+
+// Results share no memory with arguments (R3)
+func TestNewMemory(t *testing.T) {
+	r := heaptest.NewRandom(5)
+	for range 40 {
+		h := r.Heap(false)
+		before := heaps.Clone(h)
+		var results []api.Heap
+		g, _ := Set(h)
+		f, _ := After(h, moved, false)
+		k, _ := After(h, api.EvReport{}, false)
+		results = append(results, g, f, k)
+		for _, g := range results {
+			heaptest.Scribble(g)
+		}
+		if !reflect.DeepEqual(h, before) {
+			t.Fatal("memory is shared")
+		}
+	}
+}

@@ -175,3 +175,22 @@ func TestTheorem(t *testing.T) {
 		t.Error(many)
 	}
 }
+
+// Results share no memory with arguments (R3)
+func TestNewMemory(t *testing.T) {
+	r := heaptest.NewRandom(4)
+	for range 40 {
+		h := r.Heap(false)
+		before := heaps.Clone(h)
+		var results []api.Heap
+		g, _ := Relink(h)
+		f, _, _, _ := Collect(h)
+		results = append(results, g, f)
+		for _, g := range results {
+			heaptest.Scribble(g)
+		}
+		if !reflect.DeepEqual(h, before) {
+			t.Fatal("memory is shared")
+		}
+	}
+}

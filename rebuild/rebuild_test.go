@@ -179,3 +179,22 @@ func TestTheorem(t *testing.T) {
 		}
 	}
 }
+
+// Results share no memory with arguments (R3)
+func TestNewMemory(t *testing.T) {
+	r := heaptest.NewRandom(7)
+	for range 40 {
+		h := r.Heap(true)
+		before := heaps.Clone(h)
+		var results []api.Heap
+		g, _ := Fix(h)
+		f, _, _ := Patch(h)
+		results = append(results, g, f)
+		for _, g := range results {
+			heaptest.Scribble(g)
+		}
+		if !reflect.DeepEqual(h, before) {
+			t.Fatal("memory is shared")
+		}
+	}
+}

@@ -84,6 +84,9 @@ func TestCounts(t *testing.T) {
 			t.Error(i, e, e2, e3)
 		}
 	}
+	if l, e := Counts(make([]uint64, 1601), s); len(l) > 0 || e != api.OK {
+		t.Error(l, e)
+	}
 	if l, e := Counts(nil, slots.New()); len(l) > 0 || e != api.OK {
 		t.Error(l, e)
 	}
@@ -117,6 +120,9 @@ func TestPopularMost(t *testing.T) {
 func TestMergeWithin(t *testing.T) {
 	l, e := Merge(counts, []api.RfCount{{Target: 1, N: 5}, {Target: 9, N: 3}})
 	if !slices.Equal(l, []api.RfCount{{Target: 1, N: 5}, {Target: 7, N: 1}, {Target: 9, N: 5}, {Target: 12, N: 2}}) || e != api.OK || counts[1].N != 2 {
+		t.Error(l, e)
+	}
+	if l, e := Merge([]api.RfCount{{Target: 3, N: 1599}}, []api.RfCount{{Target: 3, N: 1}}); !slices.Equal(l, []api.RfCount{{Target: 3, N: 1600}}) || e != api.OK {
 		t.Error(l, e)
 	}
 	if l, e := Merge([]api.RfCount{{Target: 3, N: 1600}}, []api.RfCount{{Target: 3, N: 1}}); len(l) > 0 || e != api.ErrRange {

@@ -135,6 +135,9 @@ func TestIntoYoungFrom(t *testing.T) {
 		t.Error("a slot in two sets", l, e)
 	}
 	into(t, s, -1, 7, 14)
+	one, _ := Forget(sizes, s, 14, 30)
+	into(t, one, -1, 7, 14)
+	into(t, one, 3)
 	for _, car := range []int{-1, 7, math.MaxInt} {
 		l, e := Into(s, car)
 		m, e2 := From(sizes, s, car)
@@ -186,7 +189,7 @@ func TestPurgeCountSame(t *testing.T) {
 	broken := empty()
 	broken.Nursery.Cells = nil
 	broken.Cars[4].Cells = make([]int, 10000)
-	if n, e := Count(broken); n != 0 || e != api.ErrLong || Same(broken, broken) {
+	if n, e := Count(broken); n != 0 || e != api.ErrLong || Same(broken, broken) || Same(broken, empty()) || Same(empty(), broken) {
 		t.Error(n, e)
 	}
 }

@@ -148,3 +148,27 @@ func untouched(t *testing.T, h, g api.Heap) {
 		t.Fatal("the lowest train was changed")
 	}
 }
+
+// Results share no memory with arguments (R3)
+func TestNewMemory(t *testing.T) {
+	r := heaptest.NewRandom(1)
+	for range 40 {
+		h := r.Heap(true)
+		before := heaps.Clone(h)
+		var results []api.Heap
+		g, _, _ := Do(h)
+		f, _, _ := Do(g)
+		again := heaps.Clone(g)
+		heaptest.Scribble(f)
+		if !reflect.DeepEqual(g, again) {
+			t.Fatal("memory is shared")
+		}
+		results = append(results, g)
+		for _, g := range results {
+			heaptest.Scribble(g)
+		}
+		if !reflect.DeepEqual(h, before) {
+			t.Fatal("memory is shared")
+		}
+	}
+}

@@ -19,7 +19,7 @@ func TestNewCheck(t *testing.T) {
 		s    api.SlSet
 		cell int
 		e    api.Errno
-	}{{New(), 0, api.OK}, {of(make([]int, 8193)...), -1, api.ErrLong}, {of(make([]int, 16384)...), -1, api.ErrLong}, {of(make([]int, 8192)...), 0, api.OK}, {of(), -1, api.ErrForm}, {of(0, 0, 0, 0), -1, api.ErrForm}, {of(make([]int, 9)...), -1, api.ErrForm}, {of(make([]int, 12)...), -1, api.ErrForm}, {of(0, -2, 0, 0, 0, 0, 0, 1601), 1, api.ErrRange}, {of(0, 0, 0, 0, 0, 0, 0, 1601), 7, api.ErrRange}, {of(5, 0, 0, 5, 0, -2, 0, 0), 3, api.ErrTwice}, {of(-1, -1, -1, -1, -1, -1, -1, 0), -1, api.ErrFull}, {of(-1, -1, -1, -1, -1, -1, 0, 0), 0, api.OK}, {of(1, 0, 0, 0, 0, 0, 0, 0), 0, api.ErrForm}, {of(1, 0, 0, 0, 0, 0, 0, -1), 0, api.OK}, {of(1, 2, 3, 4, 5, 6, 7, 0), -1, api.ErrFull}} {
+	}{{New(), 0, api.OK}, {of(make([]int, 8193)...), -1, api.ErrLong}, {of(make([]int, 16384)...), -1, api.ErrLong}, {of(make([]int, 8192)...), 0, api.OK}, {of(), -1, api.ErrForm}, {of(0, 0, 0, 0), -1, api.ErrForm}, {of(make([]int, 9)...), -1, api.ErrForm}, {of(make([]int, 12)...), -1, api.ErrForm}, {of(0, -2, 0, 0, 0, 0, 0, 1601), 1, api.ErrRange}, {of(0, 0, 0, 0, 0, 0, 0, 1601), 7, api.ErrRange}, {of(5, 0, 0, 5, 0, -2, 0, 0), 3, api.ErrTwice}, {of(-1, -1, -1, -1, -1, -1, -1, 0), -1, api.ErrFull}, {of(-1, -1, -1, -1, -1, -1, 0, 0), 0, api.OK}, {of(1, 0, 0, 0, 0, 0, 0, 0), 0, api.ErrForm}, {of(1, 0, 0, 0, 0, 0, 0, -1), 0, api.OK}, {of(1, 0, 0, 1, 0, 0, 0, -1), 3, api.ErrTwice}, {of(1, 2, 3, 4, 5, 6, 7, 0), -1, api.ErrFull}} {
 		cell, e := Check(x.s)
 		if cell != x.cell || e != x.e {
 			t.Error(x, cell, e)
@@ -203,6 +203,16 @@ func TestBuiltWithAsMany(t *testing.T) {
 		if cell, e := Check(s); len(s.Cells) != 8 || cell != 0 || e != api.OK {
 			t.Fatal(a, s, cell, e)
 		}
+	}
+	for _, u := range []api.SlSet{of(-1, 0, 0, 0, 0, 0, 0, 0), of(-1, -1, 0, 0, 0, 0, 0, 0)} {
+		if v, _, _ := Add(u, 8); v.Cells[0] != 8 || v.Cells[1] != u.Cells[1] {
+			t.Error("not the first cell that was dropped", v)
+		}
+	}
+	if u, _ := Of([]int{1600, 1599, 1598, 1597, 1596, 1595, 1594}); len(u.Cells) != 16 {
+		t.Error(u)
+	} else if l, _ := List(u); !slices.Equal(l, []int{1594, 1595, 1596, 1597, 1598, 1599, 1600}) {
+		t.Error(l)
 	}
 	if l, _ := List(s); !slices.Equal(l, []int{499, 500}) {
 		t.Error(l)

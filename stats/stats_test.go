@@ -61,6 +61,10 @@ func TestEventsAddAgree(t *testing.T) {
 	if x != (api.HpCounts{Pauses: 2, Copied: 5, Relinked: 1, Full: 4}) || e != api.OK {
 		t.Error(x, e)
 	}
+	x, e = Events([]api.PaReport{{Kind: api.PaNothing, Young: 1e9, Gone: 1e9}}, 1e9, 1e9)
+	if x != (api.HpCounts{Pauses: 1, Copied: 1e9, Allocs: 1e9, Full: 1e9}) || e != api.OK {
+		t.Error(x, e)
+	}
 	for i, x := range []struct {
 		l            []api.PaReport
 		allocs, full int
@@ -110,7 +114,7 @@ func TestText(t *testing.T) {
 			t.Error(i, s, e)
 		}
 	}
-	for s, want := range map[string][2]int{strings.Repeat("x", 1001): {0, 3}, "": {1, 6}, "objects 2": {1, 6}, "objects 2\n": {2, 6}, "words 6\n" + text: {1, 6}, text + "\n": {13, 6}, text + "x": {13, 6}, strings.TrimSuffix(text, "\n"): {12, 6}, strings.Replace(text, "live 6", "live 06", 1): {3, 6}, strings.Replace(text, "dead 0", "dead 1000000001", 1): {4, 6}, strings.Replace(text, "cars ", "cars  ", 1): {6, 6}, strings.Replace(text, "slots 1", "slots 1 ", 1): {11, 6}} {
+	for s, want := range map[string][2]int{strings.Repeat("x", 1001): {0, 3}, strings.Repeat("x", 1000): {1, 6}, "": {1, 6}, "objects 2": {1, 6}, "objects 2\n": {2, 6}, "words 6\n" + text: {1, 6}, text + "\n": {13, 6}, text + "x": {13, 6}, strings.TrimSuffix(text, "\n"): {12, 6}, strings.Replace(text, "live 6", "live 06", 1): {3, 6}, strings.Replace(text, "dead 0", "dead 1000000001", 1): {4, 6}, strings.Replace(text, "cars ", "cars  ", 1): {6, 6}, strings.Replace(text, "slots 1", "slots 1 ", 1): {11, 6}} {
 		if y, line, e := Parse(s); y != (api.SaStats{}) || line != want[0] || int(e) != want[1] {
 			t.Errorf("%.20q: %v, %d, %d", s, y, line, e)
 		}

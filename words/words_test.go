@@ -95,6 +95,10 @@ func TestJoin(t *testing.T) {
 			t.Errorf("%d: %q, %d", i, s, e)
 		}
 	}
+	exact := append(bare(4, 2000), bare(1, 188)...)
+	if s, e := Join(exact); len(s) != 8192 || e != api.OK {
+		t.Error(len(s), e)
+	}
 	if s, e := Join([]api.Field{{S: "a"}, {S: "b c\n", Quoted: true}}); s != `a "b c\n"` || e != api.OK {
 		t.Errorf("%q, %d", s, e)
 	}
@@ -107,7 +111,7 @@ func TestLines(t *testing.T) {
 			t.Errorf("Lines(%q): %q, %d", s, l, e)
 		}
 	}
-	for s, want := range map[string]api.Errno{"a": api.ErrForm, "a\nb": api.ErrForm, strings.Repeat("x", 1<<20+1): api.ErrLong, strings.Repeat("\n", 5001): api.ErrLong, strings.Repeat("\n", 5000): api.OK, strings.Repeat("\n", 5001) + "a": api.ErrForm} {
+	for s, want := range map[string]api.Errno{"a": api.ErrForm, "a\nb": api.ErrForm, strings.Repeat("x", 1<<20+1): api.ErrLong, strings.Repeat("\n", 5001): api.ErrLong, strings.Repeat("\n", 5000): api.OK, strings.Repeat("\n", 5001) + "a": api.ErrForm, strings.Repeat("x", 1<<20-1) + "\n": api.OK} {
 		if l, e := Lines(s); e != want || e != api.OK && len(l) > 0 {
 			t.Errorf("Lines(%.9q): %d, not %d", s, e, want)
 		}
@@ -123,6 +127,13 @@ func TestList(t *testing.T) {
 		if got, e := ParseList(s); !slices.Equal(got, l) || e != api.OK {
 			t.Errorf("ParseList(%q): %v, %d", s, got, e)
 		}
+	}
+	var most []int
+	for n := range 500 {
+		most = append(most, 2*n)
+	}
+	if s, e := List(most); s == "" || e != api.OK {
+		t.Error(s, e)
 	}
 	for _, x := range []struct {
 		l []int
