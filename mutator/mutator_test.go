@@ -95,6 +95,21 @@ func TestDo(t *testing.T) {
 			t.Error(i, a, e)
 		}
 	}
+	for _, c := range []api.OpCall{alloc(1, 0, 0), alloc(1, 2, 0), alloc(1, 0, 2)} {
+		g, a, _ := Do(h, c)
+		_, size, _ := Do(g, api.OpCall{Kind: api.OpSize, A: 1})
+		if a != (api.OpAnswer{}) || size.Value != uint64(256*c.Ptrs+c.Raws) {
+			t.Error(c, a)
+		}
+	}
+	copied := heaps.Clone(h)
+	for _, c := range []api.OpCall{alloc(9, 0, 0), {Kind: api.OpSame}, {Kind: api.OpClear}} {
+		g, _, _ := Do(h, c)
+		heaptest.Scribble(g)
+	}
+	if !reflect.DeepEqual(h, copied) {
+		t.Fatal("memory is shared")
+	}
 	if g, _, _ := Do(h, api.OpCall{Kind: api.OpMove, A: 1}); !slices.Equal(g.Regs, []int{1, 1}) {
 		t.Error(g.Regs)
 	}

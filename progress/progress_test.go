@@ -86,6 +86,9 @@ func TestWatch(t *testing.T) {
 			t.Error(n, v, e)
 		}
 	}
+	if v, e := Alloc(api.PgWatch{Words: 1e9, Pauses: 1e9, Rounds: 1e9}, 64); v != (api.PgWatch{Words: 1e9 + 64, Pauses: 1e9, Rounds: 1e9}) || e != api.OK {
+		t.Error(v, e)
+	}
 	if gone, holds, e := Gone(w, h); gone || !holds || e != api.OK {
 		t.Error(gone, holds, e)
 	}

@@ -60,6 +60,9 @@ func TestRun(t *testing.T) {
 	if !heaptest.Equal(h, want) || len(a) != 6 || op != 0 || e != api.OK {
 		t.Error(op, e)
 	}
+	if _, a, op, e := Run(sizes, slices.Repeat([]api.OpCall{{Kind: api.OpNil}}, 200)); len(a) != 200 || op != 0 || e != api.OK {
+		t.Error(len(a), op, e)
+	}
 	if h, a, op, e := Run(sizes, nil); h.Counts != (api.HpCounts{}) || len(h.Words) != 71 || len(a)+op > 0 || e != api.OK {
 		t.Error(a, op, e)
 	}
