@@ -66,6 +66,12 @@ func changes() map[string]struct {
 			h.Sets.Cars[5].Cells, h.Sets.Nursery.Cells = nil, nil
 			h.Top = -1
 		}, [][3]int{{1, 2, 3}, {1, 3, -3}, {1, 4, 5}, {1, 6, -1}}},
+		"no car": {func(h *api.Heap) { h.Trains.Youngest = []int{1, 16} }, [][3]int{{1, 3, 16}}},
+		"just half": {func(h *api.Heap) {
+			h.Frames[0].Top, h.Frames[2] = 4, api.Frame{State: 1, Top: 2}
+			h.Words[10], h.Words[11], h.Words[23], h.Words[24] = 1, 0, 257, 7
+			h.Trains.Lowest = []int{0, 2}
+		}, [][3]int{{5, -1, 0}}},
 		"nursery set": {func(h *api.Heap) { h.Sets.Nursery.Cells = nil; h.Frames[0].Top = 9 }, [][3]int{{1, 2, 0}, {1, 4, -1}}},
 		"trains": {func(h *api.Heap) {
 			h.Trains = api.TrTrains{Lowest: []int{0, 3}}
@@ -126,6 +132,14 @@ func TestFind(t *testing.T) {
 	}
 	if l := Find(large); len(l) != 100 || l[99] != (api.AuBreak{Rule: 3, Where: 99, What: 3}) {
 		t.Error(len(l))
+	}
+	clear(large.Words)
+	large.Words[1537], large.Words[1569], large.Words[1600] = 1+65536*31, 1+256*30, 1
+	large.Words[1570], large.Regs[0] = 1600, 1600
+	large.Frames[23] = api.Frame{State: api.FrUsed, Top: 64}
+	large.Trains.Youngest = []int{23}
+	if l := Find(large); len(l) > 0 {
+		t.Error(l)
 	}
 	if l := Find(api.Heap{}); !slices.Equal(l, []api.AuBreak{{Rule: 1, Where: 1, What: 7}}) {
 		t.Error(l)
@@ -192,7 +206,8 @@ func TestNameSpaces(t *testing.T) {
 // P31.3, P31.7
 func TestText(t *testing.T) {
 	l := []api.AuBreak{{Rule: 3, Where: 7, What: 3}, {Rule: 4, Where: -2, What: 1000000000}}
-	const text = "fill 7 3\npointers -2 1000000000\n"
+	l = append(l, api.AuBreak{Rule: 9, Where: -1000000000, What: -1})
+	const text = "fill 7 3\npointers -2 1000000000\ncounts -1000000000 -1\n"
 	if s, e := Print(l); s != text || e != api.OK {
 		t.Error(s, e)
 	}
@@ -217,7 +232,7 @@ func TestText(t *testing.T) {
 	if m, line, e := Parse(good); len(m) != 100 || line != 0 || e != api.OK {
 		t.Error(len(m), line, e)
 	}
-	for s, want := range map[string][2]int{strings.Repeat("x", 10001): {0, 3}, "fill 7 3": {0, 6}, "\n": {1, 6}, "fill 7 3\nfill 7\n": {2, 6}, "fill 07 3\n": {1, 6}, "fill 7 1000000001\n": {1, 6}, "none 7 3\n": {1, 6}, "fill  7 3\n": {1, 6}, "fill 7 3 \n": {1, 6}, good + "x\n": {101, 3}, good + "pin 1 0\n": {101, 3}, "x\n" + good: {1, 6}} {
+	for s, want := range map[string][2]int{strings.Repeat("x", 10001): {0, 3}, strings.Repeat("x", 10000): {0, 6}, "fill 7 3": {0, 6}, "\n": {1, 6}, "fill 7 3\nfill 7\n": {2, 6}, "fill 07 3\n": {1, 6}, "fill 7 1000000001\n": {1, 6}, "none 7 3\n": {1, 6}, "fill  7 3\n": {1, 6}, "fill 7 3 \n": {1, 6}, good + "x\n": {101, 3}, good + "pin 1 0\n": {101, 3}, "x\n" + good: {1, 6}} {
 		if m, line, e := Parse(s); len(m) > 0 || line != want[0] || int(e) != want[1] {
 			t.Errorf("%.20q: %d, %d", s, line, e)
 		}
